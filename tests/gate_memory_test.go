@@ -65,7 +65,7 @@ func TestNoArgumentIsWrittenInto(t *testing.T) {
 		o.Values, o.Holds = values, holds
 		wantValues, wantHolds := slices.Clone(allValues), slices.Clone(allHolds)
 		shapes, allShapes := roomyShapes()
-		wantShapes := whole(allShapes)
+		shapesBefore := whole(allShapes)
 		impl.GateFits(shapes[0].Fields[1], "red")
 		impl.GateShapesOk(shapes)
 		impl.GateFill(shapes, o)
@@ -74,7 +74,7 @@ func TestNoArgumentIsWrittenInto(t *testing.T) {
 		if !slices.Equal(allValues, wantValues) || !slices.Equal(allHolds, wantHolds) {
 			t.Errorf("case %d: the object is now %q, %q", i, allValues, allHolds)
 		}
-		if got := whole(allShapes); !reflect.DeepEqual(got, wantShapes) {
+		if got := whole(allShapes); !reflect.DeepEqual(got, shapesBefore) {
 			t.Errorf("case %d: the shapes are now %+v", i, got)
 		}
 	}
