@@ -58,6 +58,25 @@ func objectCases() []impl.GateObject {
 	return []impl.GateObject{crane(), empty, unknown, few, {Kind: "stone"}}
 }
 
+func craneMends() []impl.GateMend {
+	return []impl.GateMend{
+		{Kind: "crane", Field: "label", From: "colour"},
+		{Kind: "crane", Field: "lift", When: "label", Is: "red", Put: "9"},
+	}
+}
+
+// objectAnswers are the functions that answer an object, by their names.
+func objectAnswers() map[string]func(o impl.GateObject) impl.GateObject {
+	return map[string]func(o impl.GateObject) impl.GateObject{
+		"GateFill":   func(o impl.GateObject) impl.GateObject { return impl.GateFill(harbourShapes(), o) },
+		"GateMended": func(o impl.GateObject) impl.GateObject { return impl.GateMended(harbourShapes(), craneMends(), o) },
+		"GateShaped": func(o impl.GateObject) impl.GateObject { return impl.GateShaped(harbourShapes(), craneMends(), o) },
+		"GateShaped by no mends that are ok": func(o impl.GateObject) impl.GateObject {
+			return impl.GateShaped(harbourShapes(), []impl.GateMend{{}}, o)
+		},
+	}
+}
+
 func TestNoArgumentIsWrittenInto(t *testing.T) {
 	for i, o := range objectCases() {
 		values, allValues := roomy(o.Values...)
@@ -66,11 +85,20 @@ func TestNoArgumentIsWrittenInto(t *testing.T) {
 		wantValues, wantHolds := slices.Clone(allValues), slices.Clone(allHolds)
 		shapes, allShapes := roomyShapes()
 		shapesBefore := whole(allShapes)
+		allMends := append(craneMends(), impl.GateMend{Kind: "behind"})
+		mends := allMends[:len(allMends)-1]
+		mendsBefore := slices.Clone(allMends)
 		impl.GateFits(shapes[0].Fields[1], "red")
 		impl.GateShapesOk(shapes)
 		impl.GateFill(shapes, o)
 		impl.GateCheck(shapes, o)
 		impl.GateTurned(shapes, o, o)
+		impl.GateMendsOk(shapes, mends)
+		impl.GateMended(shapes, mends, o)
+		impl.GateShaped(shapes, mends, o)
+		if !slices.Equal(allMends, mendsBefore) {
+			t.Errorf("case %d: the mends are now %+v", i, allMends)
+		}
 		if !slices.Equal(allValues, wantValues) || !slices.Equal(allHolds, wantHolds) {
 			t.Errorf("case %d: the object is now %q, %q", i, allValues, allHolds)
 		}
@@ -80,29 +108,32 @@ func TestNoArgumentIsWrittenInto(t *testing.T) {
 	}
 }
 
-func TestFillSharesNoMemory(t *testing.T) {
-	for i, o := range objectCases() {
-		values, allValues := roomy(o.Values...)
-		holds, allHolds := roomy(o.Holds...)
-		o.Values, o.Holds = values, holds
-		wantValues, wantHolds := slices.Clone(allValues), slices.Clone(allHolds)
-		got := impl.GateFill(harbourShapes(), o)
-		scribble(got.Values)
-		scribble(got.Holds)
-		if !slices.Equal(allValues, wantValues) || !slices.Equal(allHolds, wantHolds) {
-			t.Errorf("case %d: the argument is now %q, %q", i, allValues, allHolds)
+func TestAnswersShareNoMemory(t *testing.T) {
+	for name, answer := range objectAnswers() {
+		for i, o := range objectCases() {
+			values, allValues := roomy(o.Values...)
+			holds, allHolds := roomy(o.Holds...)
+			o.Values, o.Holds = values, holds
+			wantValues, wantHolds := slices.Clone(allValues), slices.Clone(allHolds)
+			got := answer(o)
+			scribble(got.Values)
+			scribble(got.Holds)
+			if !slices.Equal(allValues, wantValues) || !slices.Equal(allHolds, wantHolds) {
+				t.Errorf("%s, case %d: the argument is now %q, %q", name, i, allValues, allHolds)
+			}
 		}
 	}
 }
 
-func TestFillListsShareNoMemory(t *testing.T) {
-	for _, kind := range []string{"crane", "none"} {
-		row := []string{"1", "2", "3"}
-		o := impl.GateObject{Kind: kind, Values: row, Holds: row}
-		got := impl.GateFill(harbourShapes(), o)
-		scribble(got.Values)
-		if !slices.Equal(got.Holds, row) || !slices.Equal(row, []string{"1", "2", "3"}) {
-			t.Errorf("%s: Values and Holds share memory: %+v", kind, got)
+func TestListsOfAnAnswerShareNoMemory(t *testing.T) {
+	for name, answer := range objectAnswers() {
+		for _, kind := range []string{"crane", "none"} {
+			row := []string{"1", "2", "3"}
+			got := answer(impl.GateObject{Kind: kind, Values: row, Holds: row})
+			scribble(got.Values)
+			if !slices.Equal(got.Holds, []string{"1", "2", "3"}) || !slices.Equal(row, []string{"1", "2", "3"}) {
+				t.Errorf("%s, %s: Values and Holds share memory: %+v", name, kind, got)
+			}
 		}
 	}
 }
@@ -120,5 +151,10 @@ func TestCallsKeepNothing(t *testing.T) {
 	impl.GateShapesOk([]impl.GateShape{{}})
 	if !impl.GateShapesOk(shapes) {
 		t.Error("shapes that were ok are not ok any more")
+	}
+	shaped := impl.GateShaped(shapes, craneMends(), o)
+	impl.GateMended(shapes, []impl.GateMend{{}}, o)
+	if again := impl.GateShaped(shapes, craneMends(), o); !sameObject(shaped, again) {
+		t.Errorf("%+v, then %+v", shaped, again)
 	}
 }
