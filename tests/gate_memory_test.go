@@ -138,6 +138,53 @@ func TestListsOfAnAnswerShareNoMemory(t *testing.T) {
 	}
 }
 
+// roomyRule gives a rule with sentinels behind its verbs, and all of their memory.
+func roomyRule() (r impl.GateRule, all []int) {
+	all = []int{impl.GateMake, impl.GateEnd, impl.GateGive, 99, 98}
+	return impl.GateRule{Verbs: all[:3], Team: "dock", Prefix: "n"}, all
+}
+
+func TestNoRightIsWrittenInto(t *testing.T) {
+	for _, kind := range []string{"", "crane", "No Kind"} {
+		r, mine := roomyRule()
+		r.Kind = kind
+		other, others := roomyRule()
+		allTeams := append(yardTeams(), impl.GateTeam{Name: "behind"}, impl.GateTeam{Name: "behind"})
+		allRules := []impl.GateRule{other, {Verbs: verbs(4)}, {Kind: "behind"}, {Kind: "behind"}}
+		teams, list := allTeams[:len(allTeams)-2], allRules[:2]
+		teamsBefore, verbsBefore := slices.Clone(allTeams), slices.Clone(mine)
+		told := [2]impl.GateAct{}
+		for i := range told {
+			impl.GateUnder(teams, "gang", "yard")
+			impl.GateTeamsOk(teams)
+			impl.GateAllows(teams, r, act(1, kind, "gang", "n1"))
+			impl.GateCovers(teams, list, r)
+			told[i], _ = impl.GateUncovered(teams, list, rule(r.Verbs, r.Kind, "", ""))
+		}
+		if told[0] != told[1] {
+			t.Errorf("%+v, then %+v", told[0], told[1])
+		}
+		if !slices.Equal(allTeams, teamsBefore) || !slices.Equal(mine, verbsBefore) || !slices.Equal(others, verbsBefore) {
+			t.Errorf("the teams are now %+v, the verbs %v and %v", allTeams, mine, others)
+		}
+		rulesBefore := []impl.GateRule{other, {Verbs: verbs(4)}, {Kind: "behind"}, {Kind: "behind"}}
+		if !reflect.DeepEqual(allRules, rulesBefore) {
+			t.Errorf("the rules are now %+v", allRules)
+		}
+	}
+}
+
+// An act that was told stays the same when the arguments are spoiled.
+func TestAnActSharesNoMemory(t *testing.T) {
+	teams, list := yardTeams(), rules(rule(verbs(1), "crane", "dock", "n"))
+	r := rule(verbs(1, 2), "", "dock", "n")
+	told, ok := impl.GateUncovered(teams, list, r)
+	r.Verbs[0], list[0], teams[0] = 9, impl.GateRule{}, impl.GateTeam{}
+	if !ok || told != act(1, "k0", "dock", "n") {
+		t.Errorf("%+v, %v", told, ok)
+	}
+}
+
 // A default is read, not shared, and the same call gives the same answer again.
 func TestCallsKeepNothing(t *testing.T) {
 	shapes := harbourShapes()
