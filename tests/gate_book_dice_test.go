@@ -14,13 +14,20 @@ var (
 	diceResources = []string{"area", "crate", "pier", "stone", "tons", "wood"}
 )
 
-// diceLaw is the store's law with other teams, at least one.
+// diceLaw is the store's law with other teams.
 func diceLaw(d *dice) impl.GateLaw {
 	l := storeLaw()
-	for l.Teams = nil; len(l.Teams) == 0; {
-		l.Teams = diceYard(d)
-	}
+	l.Teams = someTeams(d)
 	return l
+}
+
+// someTeams are teams that are ok, at least one.
+func someTeams(d *dice) []impl.GateTeam {
+	for {
+		if teams := diceYard(d); len(teams) > 0 {
+			return teams
+		}
+	}
 }
 
 // diceObjects are objects that are as a book wants them, by a law of diceLaw.
@@ -58,7 +65,7 @@ func diceObjects(d *dice, l impl.GateLaw, now int) []impl.GateObject {
 	return list
 }
 
-// diceBook is an ok book with ledgers over what its objects are, and purses of some doors.
+// diceBook is an ok book by a law of diceLaw.
 func diceBook(d *dice, l impl.GateLaw) impl.GateBook {
 	b := impl.GateBook{Now: 1 + d.below(50), Tick: oneOf(d, 0, d.below(90), impl.GateMaxNumber-d.below(30))}
 	b.Given = d.below(b.Now + 1)
@@ -66,8 +73,14 @@ func diceBook(d *dice, l impl.GateLaw) impl.GateBook {
 	for n := 1; n <= min(b.Given, 5); n++ {
 		b.Grants = append(b.Grants, grant(n, oneOf(d, "ann", "bob"), oneOf(d, "", "ann"), diceRule(d)))
 	}
+	diceBounds(d, l, &b, diceResources)
+	return b
+}
+
+// diceBounds gives a book ledgers over what its objects are, and purses of some doors.
+func diceBounds(d *dice, l impl.GateLaw, b *impl.GateBook, resources []string) {
 	for _, team := range l.Teams {
-		for _, resource := range diceResources {
+		for _, resource := range resources {
 			if d.below(4) == 0 && len(b.Ledgers) < impl.GateMaxLedgers {
 				b.Ledgers = append(b.Ledgers, ledger(team.Name, resource, 0, d.below(12)))
 			}
@@ -81,9 +94,8 @@ func diceBook(d *dice, l impl.GateLaw) impl.GateBook {
 		}
 	}
 	for i, g := range b.Ledgers {
-		b.Ledgers[i].Most = g.Free + usedByHand(l, b, g.Team, g.Resource) + drawnByHand(b, g)
+		b.Ledgers[i].Most = g.Free + usedByHand(l, *b, g.Team, g.Resource) + drawnByHand(*b, g)
 	}
-	return b
 }
 
 // weighsByHand counts as the document says it, of shapes that are ok and an object that has its values.
