@@ -99,38 +99,59 @@ func takeFaults() []passFault {
 	)
 }
 
-// wantFirstCodes takes every part of the faults, and asks for what the least of their codes says.
-func wantFirstCodes(t *testing.T, what string, faults []passFault, a impl.GateAsk) {
-	t.Helper()
-	for part := range 1 << len(faults) {
-		c := passCase{book: passBook(), door: "d", ask: withRoom(a)}
-		want := impl.GateSaid{Version: 21}
-		for i, f := range faults {
-			if part>>i&1 == 0 {
-				continue
-			}
-			f.spoil(&c)
-			if want.Code == 0 || f.said.Code < want.Code {
-				want = f.said
-			}
+// codeCase is an ask that is done in passBook, with what may be turned wrong in it.
+type codeCase struct {
+	ask    impl.GateAsk
+	faults []passFault
+}
+
+func codeCases() map[string]codeCase {
+	return map[string]codeCase{
+		"make":   {askMake("barge", "z", "dock", "1", "1", "red", "", "p", "a"), makeFaults()},
+		"change": {seeing(askChange("barge", "b", "5", "1", "red", "9", "p", "a"), 20), changeFaults()},
+		"end":    {askEnd("barge", "b"), endFaults()},
+		"let go": {askLetGo("barge", "b", "tax"), letGoFaults()},
+		"give":   {askGive("bob", rule(verbs(2), "barge", "", "")), giveFaults()},
+		"take":   {askTake(8), takeFaults()},
+	}
+}
+
+// spoiled is the case with a part of its faults, and what the least of their codes that counts says.
+func (f codeCase) spoiled(part int, counts func(code int) bool) (passCase, impl.GateSaid) {
+	c := passCase{book: passBook(), door: "d", ask: withRoom(f.ask)}
+	var least impl.GateSaid
+	for i, fault := range f.faults {
+		if part>>i&1 == 0 {
+			continue
 		}
-		before := bookCopy(c.book)
-		got, said := impl.GatePass(passLaw(), c.book, c.door, c.ask)
-		if said != want {
-			t.Errorf("%s, faults %b: %+v, not %+v", what, part, said, want)
-		}
-		if want.Code > 2 && !sameBook(got, before) || want.Code > 0 && want.Code < 3 && !sameBook(got, impl.GateBook{}) {
-			t.Errorf("%s, faults %b: %+v, and the book is %+v", what, part, said, got)
+		fault.spoil(&c)
+		if counts(fault.said.Code) && (least.Code == 0 || fault.said.Code < least.Code) {
+			least = fault.said
 		}
 	}
+	return c, least
+}
+
+func anyCode(code int) bool {
+	return true
 }
 
 // The order of the codes, with each two that would do, and with any more of them.
 func TestTheFirstCodeIsTold(t *testing.T) {
-	wantFirstCodes(t, "make", makeFaults(), askMake("barge", "z", "dock", "1", "1", "red", "", "p", "a"))
-	wantFirstCodes(t, "change", changeFaults(), seeing(askChange("barge", "b", "5", "1", "red", "9", "p", "a"), 20))
-	wantFirstCodes(t, "end", endFaults(), askEnd("barge", "b"))
-	wantFirstCodes(t, "let go", letGoFaults(), askLetGo("barge", "b", "tax"))
-	wantFirstCodes(t, "give", giveFaults(), askGive("bob", rule(verbs(2), "barge", "", "")))
-	wantFirstCodes(t, "take", takeFaults(), askTake(8))
+	for what, f := range codeCases() {
+		for part := range 1 << len(f.faults) {
+			c, want := f.spoiled(part, anyCode)
+			if want.Code == 0 {
+				want.Version = 21
+			}
+			before := bookCopy(c.book)
+			got, said := impl.GatePass(passLaw(), c.book, c.door, c.ask)
+			if said != want {
+				t.Errorf("%s, faults %b: %+v, not %+v", what, part, said, want)
+			}
+			if want.Code > 2 && !sameBook(got, before) || want.Code > 0 && want.Code < 3 && !sameBook(got, impl.GateBook{}) {
+				t.Errorf("%s, faults %b: %+v, and the book is %+v", what, part, said, got)
+			}
+		}
+	}
 }

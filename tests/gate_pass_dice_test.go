@@ -66,21 +66,36 @@ func ruleByHand(r impl.GateRule) bool {
 
 // passByHand answers by the document's words, code by code.
 func passByHand(l impl.GateLaw, b impl.GateBook, door string, a impl.GateAsk) (impl.GateBook, impl.GateSaid) {
+	h, said := lookByHand(l, b, door, a, anyCode)
+	switch said.Code {
+	case 0:
+		h.do()
+		return h.b, impl.GateSaid{Version: h.b.Now}
+	case 1, 2:
+		return impl.GateBook{}, said
+	}
+	return bookCopy(b), said
+}
+
+// lookByHand looks for the codes of an ask that count.
+func lookByHand(l impl.GateLaw, b impl.GateBook, door string, a impl.GateAsk, counts func(code int) bool) (*handPass, impl.GateSaid) {
+	h := &handPass{l: l, b: bookCopy(b), door: door, a: a, made: a.Verb == 1, changed: a.Verb == 2, of: a.Verb <= 4}
 	if !impl.GateBookOk(l, b) || !handName.MatchString(door) {
-		return impl.GateBook{}, impl.GateSaid{Code: 1}
+		return h, impl.GateSaid{Code: 1}
 	}
 	if !askByHand(l, a) {
-		return impl.GateBook{}, impl.GateSaid{Code: 2}
+		return h, impl.GateSaid{Code: 2}
 	}
-	h := &handPass{l: l, b: bookCopy(b), door: door, a: a, made: a.Verb == 1, changed: a.Verb == 2, of: a.Verb <= 4}
 	h.find()
-	for _, look := range []func() impl.GateSaid{h.three, h.four, h.five, h.six, h.seven, h.eight, h.nine, h.ten, h.eleven} {
+	for i, look := range []func() impl.GateSaid{h.three, h.four, h.five, h.six, h.seven, h.eight, h.nine, h.ten, h.eleven} {
+		if !counts(3 + i) {
+			continue
+		}
 		if said := look(); said.Code != 0 {
-			return bookCopy(b), said
+			return h, said
 		}
 	}
-	h.do()
-	return h.b, impl.GateSaid{Version: h.b.Now}
+	return h, impl.GateSaid{}
 }
 
 // handPass is an ask as it is looked into by hand.
@@ -178,6 +193,24 @@ func (h *handPass) eight() impl.GateSaid {
 }
 
 func (h *handPass) nine() impl.GateSaid {
+	for _, link := range h.newLinks() {
+		at := placeIn(h.b, link.to)
+		if at < 0 || h.b.Objects[at].Ending {
+			return impl.GateSaid{Code: 9, Place: link.place}
+		}
+	}
+	return impl.GateSaid{}
+}
+
+// handLink is the place of a link, and what it names.
+type handLink struct {
+	place int
+	to    impl.GateObject
+}
+
+// newLinks are the links that would be set, and to something else than before.
+func (h *handPass) newLinks() []handLink {
+	var out []handLink
 	for _, s := range h.l.Shapes {
 		for i, f := range s.Fields {
 			if !h.made && !h.changed || s.Kind != h.a.Kind || f.Kind != impl.GateLink || h.next.Values[i] == "" {
@@ -186,13 +219,10 @@ func (h *handPass) nine() impl.GateSaid {
 			if h.changed && h.old.Values[i] == h.next.Values[i] {
 				continue
 			}
-			at := placeIn(h.b, impl.GateObject{Kind: f.To, Name: h.next.Values[i]})
-			if at < 0 || h.b.Objects[at].Ending {
-				return impl.GateSaid{Code: 9, Place: i}
-			}
+			out = append(out, handLink{i, impl.GateObject{Kind: f.To, Name: h.next.Values[i]}})
 		}
 	}
-	return impl.GateSaid{}
+	return out
 }
 
 // more is by how much the object would weigh more than before.
