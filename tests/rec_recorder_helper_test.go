@@ -63,6 +63,37 @@ func wantRecorder(t *testing.T, what string, r impl.Recorder, want bool) {
 // recTurn turns one thing of a recorder.
 type recTurn func(r *impl.Recorder)
 
+// wrongRecorders turn one of any role that is Up so that it is not valid any more.
+func wrongRecorders() map[string]recTurn {
+	return map[string]recTurn{
+		"nothing":                   func(r *impl.Recorder) { *r = impl.Recorder{} },
+		"Of too many":               func(r *impl.Recorder) { r.Of = impl.RecMaxRecorders + 1 },
+		"not one of them":           func(r *impl.Recorder) { r.Number, r.Held = 4, nil },
+		"known and not taken":       func(r *impl.Recorder) { r.Disk.Known = 3 },
+		"known and not there":       func(r *impl.Recorder) { r.Disk.Known = 9 },
+		"known below 0":             func(r *impl.Recorder) { r.Disk.Known = -1 },
+		"safe with too much known":  func(r *impl.Recorder) { r.Safe.Known = 2 },
+		"a ballot not promised":     func(r *impl.Recorder) { r.Disk.Promise = 7 },
+		"one too many held":         func(r *impl.Recorder) { r.Held = plainMessages(impl.RecMaxHeld+1, 2) },
+		"held of another one":       func(r *impl.Recorder) { r.Held[0].From = 1 },
+		"one too many wishes":       func(r *impl.Recorder) { r.Wishes = names(impl.RecMaxWishes + 1) },
+		"a wish twice":              func(r *impl.Recorder) { r.Wishes = []string{"x", "x"} },
+		"leads and tries":           func(r *impl.Recorder) { r.Lead, r.Trying = true, true },
+		"leads under no ballot":     func(r *impl.Recorder) { r.Lead, r.Trying, r.Ballot = true, false, 0 },
+		"quiet with a ballot":       func(r *impl.Recorder) { r.Lead, r.Trying, r.Ballot = false, false, 3 },
+		"an ack of no place":        func(r *impl.Recorder) { r.Acks = []impl.RecAck{{Index: 0, From: []int{1}}} },
+		"acks of one who tries":     func(r *impl.Recorder) { r.Lead, r.Trying, r.Ballot, r.Acks = false, true, 8, []impl.RecAck{{Index: 1}} },
+		"who promised out of order": func(r *impl.Recorder) { r.Yes = []int{3, 1} },
+		"Heard below 0":             func(r *impl.Recorder) { r.Heard = -1 },
+		"Heard above all":           func(r *impl.Recorder) { r.Heard = impl.RecMaxBallot + 1 },
+		"not Up, with something":    func(r *impl.Recorder) { r.Up = false },
+		"nobody, and Up":            func(r *impl.Recorder) { *r = impl.Recorder{Up: true} },
+		"safe, not promised":        func(r *impl.Recorder) { r.Safe.Promise = 2 },
+		"an empty wish":             func(r *impl.Recorder) { r.Wishes = []string{""} },
+		"one slot too many":         func(r *impl.Recorder) { r.Disk.Slots = manySlots(impl.RecMaxSlots+1, 8) },
+	}
+}
+
 // wantRecTurned turns a recorder in each of several ways, each alone.
 func wantRecTurned(t *testing.T, make func() impl.Recorder, want bool, turns map[string]recTurn) {
 	t.Helper()
