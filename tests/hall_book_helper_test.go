@@ -115,6 +115,21 @@ func crowdedHall(n, others int) impl.HallBook {
 	return b
 }
 
+// wrongHalls are books of yardHouse that are not ok.
+func wrongHalls() map[string]impl.HallBook {
+	books := map[string]impl.HallBook{}
+	for what, turn := range tieTurns() {
+		books["tie: "+what] = turnedHall(turn)
+	}
+	for what, spoil := range gateSpoilers() {
+		books["gate: "+what] = turnedHall(func(b *impl.HallBook) { spoil(&b.Gate) })
+	}
+	for what, b := range wrongStewBooks() {
+		books["stew: "+what] = impl.HallBook{Gate: hallBooks().Gate, Stew: b}
+	}
+	return books
+}
+
 // readEntry is the entry of a text, which has to have one.
 func readEntry(t *testing.T, text string) impl.HallEntry {
 	t.Helper()

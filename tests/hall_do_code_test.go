@@ -68,17 +68,7 @@ func TestNumbersOfEntriesThatAreDone(t *testing.T) {
 
 // Code 1 comes ahead of all others: the books are not ok, or the house is not.
 func TestEntriesForBooksThatAreNotOk(t *testing.T) {
-	books := map[string]impl.HallBook{}
-	for what, turn := range tieTurns() {
-		books["tie: "+what] = turnedHall(turn)
-	}
-	for what, spoil := range gateSpoilers() {
-		books["gate: "+what] = turnedHall(func(b *impl.HallBook) { spoil(&b.Gate) })
-	}
-	for what, b := range wrongStewBooks() {
-		books["stew: "+what] = impl.HallBook{Gate: hallBooks().Gate, Stew: b}
-	}
-	for what, b := range books {
+	for what, b := range wrongHalls() {
 		for text := range oneOfEach() {
 			wantToText(t, b, text, codeAlone(1))
 		}

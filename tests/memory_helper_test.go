@@ -2,7 +2,9 @@ package tests
 
 import (
 	"reflect"
+	"runtime"
 	"testing"
+	"time"
 )
 
 const roomBehind = 3
@@ -126,4 +128,17 @@ func wantUntouched(t *testing.T, what string, value any, before any) {
 	if now := opened(value); !reflect.DeepEqual(now, before) {
 		t.Errorf("%s: an argument is now %+v,\nnot %+v", what, now, before)
 	}
+}
+
+// wantNobodyLeft asks that no more goroutines are there than were before. One that has told that it has ended may be
+// there for a moment longer, and on a busy machine that moment is long.
+func wantNobodyLeft(t *testing.T, before int) {
+	t.Helper()
+	for range 10000 {
+		if runtime.NumGoroutine() <= before {
+			return
+		}
+		time.Sleep(time.Millisecond)
+	}
+	t.Errorf("there were %d goroutines, and now there are %d", before, runtime.NumGoroutine())
 }

@@ -194,12 +194,5 @@ func TestRecordersWhoHaveTicked(t *testing.T) {
 		impl.RecCalm(recCrowd(), 5)
 		impl.RecDo(holders(400, 400, 400, 400, 400), recTickEvent())
 	}
-	for range 1000 {
-		// One that has told that it has ended may be there for a moment longer.
-		if runtime.NumGoroutine() <= before {
-			return
-		}
-		runtime.Gosched()
-	}
-	t.Errorf("there were %d goroutines, and now there are %d", before, runtime.NumGoroutine())
+	wantNobodyLeft(t, before)
 }

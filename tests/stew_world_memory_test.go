@@ -149,12 +149,5 @@ func TestStewardsWhoHaveLooked(t *testing.T) {
 		impl.StewCalm(w, 5, nil)
 		impl.StewDo(w, stewardMove(impl.StewMender, 0))
 	}
-	for range 1000 {
-		// One that has told that it has ended may be there for a moment longer.
-		if runtime.NumGoroutine() <= before {
-			return
-		}
-		runtime.Gosched()
-	}
-	t.Errorf("there were %d goroutines, and now there are %d", before, runtime.NumGoroutine())
+	wantNobodyLeft(t, before)
 }
