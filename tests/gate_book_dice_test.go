@@ -218,6 +218,7 @@ func turnOneNumber(d *dice, b *impl.GateBook) {
 
 // A number that is turned leaves a book ok just where the document's words still hold of it.
 func TestDrawnBooksWithANumberTurned(t *testing.T) {
+	t.Parallel()
 	d := &dice{state: 77}
 	seen := map[bool]int{}
 	for range 12000 {

@@ -36,6 +36,7 @@ func TestDrawnEndsAgainstAllParts(t *testing.T) {
 }
 
 func TestDrawnSweeps(t *testing.T) {
+	t.Parallel()
 	d := &dice{state: 8}
 	seen := map[int]int{}
 	for range 3000 {
@@ -142,6 +143,7 @@ func wantEnded(t *testing.T, l impl.GateLaw, first, last impl.GateBook) {
 
 // Promises 8 and 9, from drawn books and through as many sweeps as there are objects.
 func TestSweepsComeToAnEnd(t *testing.T) {
+	t.Parallel()
 	d := &dice{state: 123}
 	seen := map[string]int{}
 	for range 2000 {

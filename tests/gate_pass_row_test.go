@@ -57,6 +57,7 @@ func seenOften(t *testing.T, seen map[[2]int]int) {
 }
 
 func TestDrawnAsks(t *testing.T) {
+	t.Parallel()
 	d := &dice{state: 606}
 	seen := map[[2]int]int{}
 	for range 1500 {
@@ -101,6 +102,7 @@ func TestDrawnMay(t *testing.T) {
 // Promise 12: asking for the values that an object has changes its version alone, through any door; it is refused
 // only by who asks, or where it is Ending or no version is left.
 func TestAskingForTheSameChangesTheVersionAlone(t *testing.T) {
+	t.Parallel()
 	d := &dice{state: 12}
 	seen := map[int]int{}
 	for range 600 {
@@ -168,6 +170,7 @@ func wantCoveredGrants(t *testing.T, l impl.GateLaw, first []impl.GateRule, b im
 
 // Promises 4, 5 and 7, through asks, purses' calls and sweeps in any order, from books that the first grants alone are in.
 func TestRightsAndBoundsHoldBehindAnyAsks(t *testing.T) {
+	t.Parallel()
 	d := &dice{state: 909}
 	done := map[int]int{}
 	for range 120 {

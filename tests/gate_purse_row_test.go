@@ -173,6 +173,7 @@ func diceCall(d *dice, greedy bool, l impl.GateLaw, b impl.GateBook) purseCall {
 
 // Promise 5, through many calls in a row, each of which does what the document says.
 func TestBoundsHoldBehindAnyCalls(t *testing.T) {
+	t.Parallel()
 	d := &dice{state: 2024}
 	seen := map[[2]int]int{}
 	for run := range 80 {

@@ -36,6 +36,7 @@ func wantHandCommit(t *testing.T, l impl.GateLaw, b impl.GateBook, s impl.GateSl
 
 // Slips of drawn views, as they are and with something turned in them, committed to the view and to any other book.
 func TestDrawnSlips(t *testing.T) {
+	t.Parallel()
 	d := &dice{state: 707}
 	made, told := map[[2]int]int{}, map[int]int{}
 	for range 500 {
@@ -74,6 +75,7 @@ func TestDrawnSlips(t *testing.T) {
 // Promise 11: a slip of any older view is answered with 0, 10, 11 or 12, and where it is not 12, by what asking the
 // book itself gives.
 func TestLateSlips(t *testing.T) {
+	t.Parallel()
 	d := &dice{state: 1111}
 	told, late := map[[2]int]int{}, map[int]int{}
 	for range 500 {

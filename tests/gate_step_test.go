@@ -103,6 +103,7 @@ func TestADoorCommits(t *testing.T) {
 
 // Each answer of GateCommit is handed on; the slip is gone, and the Book is as it was.
 func TestWhatTheBookSaysIsHandedOn(t *testing.T) {
+	t.Parallel()
 	seen := map[int]int{}
 	commit := func(what string, b impl.GateBook, s impl.GateSlip, want impl.GateSaid) {
 		seen[want.Code]++
@@ -333,6 +334,7 @@ func TestNoRoomForASlip(t *testing.T) {
 }
 
 func TestNothingHappensInAWorldThatIsNotOk(t *testing.T) {
+	t.Parallel()
 	for kind, e := range goodEvents() {
 		for what, w := range wrongWorlds() {
 			wantNoStep(t, kind+": "+what, passLaw(), w, e)

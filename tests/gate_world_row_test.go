@@ -29,6 +29,7 @@ func wantWordedStep(t *testing.T, l impl.GateLaw, w impl.GateWorld, e impl.GateE
 
 // GateWorldOk of drawn worlds, as they are and with one thing turned, against the document's words.
 func TestDrawnWorlds(t *testing.T) {
+	t.Parallel()
 	d := &dice{state: 1010}
 	seen := map[bool]int{}
 	for range 400 {
@@ -52,6 +53,7 @@ func TestDrawnWorlds(t *testing.T) {
 
 // GateSafe of any two drawn books, against the document's words.
 func TestDrawnSafety(t *testing.T) {
+	t.Parallel()
 	d := &dice{state: 1313}
 	seen := map[bool]int{}
 	for range 500 {
@@ -123,6 +125,7 @@ func firstGrants(d *dice, l impl.GateLaw, w *impl.GateWorld) {
 
 // Promises 4 and 13: behind any row of events a world is ok, and safe if it was.
 func TestWorldsStayOkAndSafe(t *testing.T) {
+	t.Parallel()
 	d := &dice{state: 413}
 	seen, asked := map[[2]int]int{}, map[[2]int]int{}
 	for run := range 150 {

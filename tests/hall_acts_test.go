@@ -112,6 +112,7 @@ func manyForm(name string, n int) string {
 
 // Of an act that is too long just as many of its first Ends are left as fit.
 func TestActsThatAreTooLong(t *testing.T) {
+	t.Parallel()
 	met := map[string]int{}
 	for size := 1; size <= impl.GateMaxName; size++ {
 		name := long(size)

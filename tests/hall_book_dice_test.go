@@ -278,6 +278,7 @@ func hallForm(e impl.HallEntry, said impl.GateSaid) string {
 
 // P35, P37, P38, P39 and P40, over many drawn houses and rows of entries, from the first books on.
 func TestDrawnRowsOfEntries(t *testing.T) {
+	t.Parallel()
 	d := &dice{state: 3101}
 	seen := map[string]int{}
 	for range 120 {
@@ -309,6 +310,7 @@ func nearEnds(d *dice, b impl.HallBook) impl.HallBook {
 
 // The same, where the Nows come to their ends.
 func TestDrawnEntriesAtTheEnds(t *testing.T) {
+	t.Parallel()
 	d := &dice{state: 3102}
 	seen := map[string]int{}
 	for range 40 {
@@ -331,6 +333,7 @@ func TestDrawnEntriesAtTheEnds(t *testing.T) {
 // The same, of the texts of a row that come in any order, some of them more than once: by which books somebody asked for
 // something counts for nothing.
 func TestTextsInAnyOrder(t *testing.T) {
+	t.Parallel()
 	d := &dice{state: 3103}
 	seen := map[string]int{}
 	for range 25 {
@@ -376,6 +379,7 @@ func turnHall(d *dice, b *impl.HallBook) {
 
 // HallOk, of books that were turned, is what the document's words say.
 func TestDrawnHallBooksTurned(t *testing.T) {
+	t.Parallel()
 	d := &dice{state: 3104}
 	seen := map[bool]int{}
 	for range 40 {

@@ -68,6 +68,7 @@ func TestNumbersOfEntriesThatAreDone(t *testing.T) {
 
 // Code 1 comes ahead of all others: the books are not ok, or the house is not.
 func TestEntriesForBooksThatAreNotOk(t *testing.T) {
+	t.Parallel()
 	for what, b := range wrongHalls() {
 		for text := range oneOfEach() {
 			wantToText(t, b, text, codeAlone(1))

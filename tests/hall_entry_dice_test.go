@@ -161,6 +161,7 @@ func turnList(d *dice, list reflect.Value) {
 
 // Promise 34 of drawn entries: HallRead of HallForm is the entry.
 func TestDrawnEntries(t *testing.T) {
+	t.Parallel()
 	d := &dice{state: 3001}
 	seen := map[int]map[bool]int{}
 	for range 20000 {
@@ -183,6 +184,7 @@ func TestDrawnEntries(t *testing.T) {
 }
 
 func TestDrawnEntriesWithSomethingTurned(t *testing.T) {
+	t.Parallel()
 	d := &dice{state: 3002}
 	seen := map[bool]int{}
 	for range 30000 {
@@ -202,6 +204,7 @@ func TestDrawnEntriesWithSomethingTurned(t *testing.T) {
 
 // No two entries have one form.
 func TestDrawnEntriesWithOneForm(t *testing.T) {
+	t.Parallel()
 	d := &dice{state: 3003}
 	entries := map[string]impl.HallEntry{}
 	again := 0
@@ -260,6 +263,7 @@ func turnText(d *dice, s string) string {
 
 // Promise 34 of drawn texts: what is read has the text as its form, and nothing else is read.
 func TestDrawnTexts(t *testing.T) {
+	t.Parallel()
 	d := &dice{state: 3004}
 	seen := map[bool]int{}
 	for range 30000 {
@@ -278,6 +282,7 @@ func TestDrawnTexts(t *testing.T) {
 }
 
 func TestDrawnTextsWordByWord(t *testing.T) {
+	t.Parallel()
 	d := &dice{state: 3005}
 	seen := map[bool]int{}
 	for range 60000 {

@@ -98,6 +98,7 @@ func with(texts []string, at int, text string) []string {
 
 // What the beginnings of drawn rows lead to, and what is told to each text of them, is what the document's words say.
 func TestDrawnRowsOfTexts(t *testing.T) {
+	t.Parallel()
 	d := &dice{state: 3201}
 	seen := map[string]int{}
 	for range 60 {
@@ -126,6 +127,7 @@ func TestDrawnRowsOfTexts(t *testing.T) {
 
 // Promise 36, over drawn rows: a text that stands among a beginning comes again at any place behind, and nothing is changed.
 func TestDrawnTextsThatComeAgain(t *testing.T) {
+	t.Parallel()
 	d := &dice{state: 3202}
 	refused := 0
 	for range 60 {
@@ -187,6 +189,7 @@ func wantLateSlip(t *testing.T, r *textRow, e impl.HallEntry) impl.GateSaid {
 
 // Promise 41, over drawn rows: slips that were made of the books that beginnings of every length lead to.
 func TestDrawnLateSlipsOfTheHall(t *testing.T) {
+	t.Parallel()
 	d := &dice{state: 4101}
 	seen := map[string]int{}
 	for range 60 {
@@ -281,6 +284,7 @@ func nextKind(e impl.HallEntry, ok bool) string {
 
 // Promise 43, over the books that beginnings of drawn rows lead to, and over ones whose Nows are at their ends.
 func TestDrawnNext(t *testing.T) {
+	t.Parallel()
 	d := &dice{state: 4301}
 	seen := map[string]int{}
 	for range 60 {
@@ -316,6 +320,7 @@ func TestDrawnNext(t *testing.T) {
 // From next to next, from where drawn rows have led to: each is done, and in the end, if there is a berth that is not to
 // be drained, all is done that was asked for.
 func TestDrawnRowsComeToRest(t *testing.T) {
+	t.Parallel()
 	d := &dice{state: 4302}
 	most, copies := 0, 0
 	for range 60 {

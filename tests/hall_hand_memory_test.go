@@ -64,6 +64,7 @@ func handCases(t *testing.T) map[string]handCase {
 }
 
 func TestNoHandIsWrittenInto(t *testing.T) {
+	t.Parallel()
 	for what, plain := range handCases(t) {
 		c := handCase{withRoom(plain.h), withRoom(plain.texts), withRoom(plain.book), withRoom(plain.ask)}
 		house, texts, book, ask := opened(c.h), opened(c.texts), opened(c.book), opened(c.ask)
@@ -81,6 +82,7 @@ func TestNoHandIsWrittenInto(t *testing.T) {
 }
 
 func TestHandsShareNoMemory(t *testing.T) {
+	t.Parallel()
 	acts, slips, nexts := 0, 0, 0
 	for what, plain := range handCases(t) {
 		c := handCase{withRoom(plain.h), withRoom(plain.texts), withRoom(plain.book), withRoom(plain.ask)}
@@ -120,6 +122,7 @@ func TestHandsOfWhatIsSharedAlready(t *testing.T) {
 
 // The same call gives the same answer again, whatever was asked between, and though the answer is spoiled.
 func TestHandsKeepNothing(t *testing.T) {
+	t.Parallel()
 	cases := handCases(t)
 	for what, c := range cases {
 		first := c.answer(7)

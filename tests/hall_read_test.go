@@ -146,6 +146,7 @@ func TestHowLongTextsAre(t *testing.T) {
 
 // Every text that differs in one byte from a form is read as the words say.
 func TestTextsNearForms(t *testing.T) {
+	t.Parallel()
 	read, unread := 0, 0
 	near := func(text string) {
 		if wantReadOrNot(t, "near a form", text) {

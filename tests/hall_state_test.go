@@ -48,6 +48,7 @@ func TestTextsInHousesThatAreNotOk(t *testing.T) {
 
 // What is not read counts for nothing wherever it stands, though it is nearly an entry, and is told nothing.
 func TestTextsThatAreNotRead(t *testing.T) {
+	t.Parallel()
 	h, day := yardHouse(), dayTexts()
 	for _, text := range unreadTexts() {
 		wantUnread(t, "not to be read", text)
@@ -78,6 +79,7 @@ func TestTextsThatDoNotStandThere(t *testing.T) {
 
 // Promise 36: a text that comes again, next to itself or far, once or often, changes nothing and is told what it was told.
 func TestATextThatComesAgain(t *testing.T) {
+	t.Parallel()
 	h, day := yardHouse(), dayTexts()
 	want := stateByHand(h, day)
 	for i, c := range yardDay() {

@@ -97,6 +97,7 @@ func someUp(d *dice, w impl.RecWorld) int {
 
 // P31, over many rows of events.
 func TestDrawnVoyagesComeToTheirEnd(t *testing.T) {
+	t.Parallel()
 	d := &dice{state: 3101}
 	seen := map[string]int{}
 	most := 0
@@ -137,6 +138,7 @@ func crammed(t *testing.T, d *dice, v *voyage) {
 }
 
 func TestCrammedVoyagesComeToTheirEnd(t *testing.T) {
+	t.Parallel()
 	d := &dice{state: 3102}
 	seen := map[string]int{}
 	for n := range 80 {
@@ -268,6 +270,7 @@ func TestALeaderThatWasCutOff(t *testing.T) {
 
 // P33, over voyages and drawn worlds, and at the ends.
 func TestDrawnRecCalmIsCalmAndCalm(t *testing.T) {
+	t.Parallel()
 	d := &dice{state: 3301}
 	for n := range 120 {
 		w := diceRecWorld(d)

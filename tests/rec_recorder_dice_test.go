@@ -90,6 +90,7 @@ func turnRecorder(d *dice, r *impl.Recorder) {
 
 // A recorder of which something is turned is valid just where the document's words still hold of it.
 func TestDrawnRecorders(t *testing.T) {
+	t.Parallel()
 	d := &dice{state: 2222}
 	seen, roles := map[bool]int{}, map[[3]bool]int{}
 	for range 15000 {

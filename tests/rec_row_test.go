@@ -183,6 +183,7 @@ func (f *fellows) happens(t *testing.T, d *dice) {
 // Recorders that lose what was not safe, over links that lose, double and turn around, never know two texts for one place:
 // nothing is told before the disk is safe.
 func TestDrawnFellows(t *testing.T) {
+	t.Parallel()
 	d := &dice{state: 2602}
 	known := 0
 	for n := range 500 {

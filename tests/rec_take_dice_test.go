@@ -83,6 +83,7 @@ func (s takesSeen) add(kind int, changed bool) {
 }
 
 func TestDrawnTakes(t *testing.T) {
+	t.Parallel()
 	d := &dice{state: 2301}
 	seen := takesSeen{}
 	for range 30000 {
@@ -107,6 +108,7 @@ func TestDrawnTakes(t *testing.T) {
 
 // What is turned so that it is ok no more, or is to another one, is not taken; a recorder that is not valid is nothing.
 func TestDrawnTakesOfWhatIsTurned(t *testing.T) {
+	t.Parallel()
 	d := &dice{state: 2302}
 	seen := map[[2]bool]int{}
 	for range 15000 {
@@ -137,6 +139,7 @@ func TestDrawnTakesOfWhatIsTurned(t *testing.T) {
 
 // A recorder takes one message behind another, and wishes between, as the words say of each; it never ceases to be valid.
 func TestDrawnRowsOfTakes(t *testing.T) {
+	t.Parallel()
 	d := &dice{state: 2303}
 	led, known := 0, 0
 	for range 800 {
@@ -171,6 +174,7 @@ func TestDrawnRowsOfTakes(t *testing.T) {
 }
 
 func TestDrawnWishes(t *testing.T) {
+	t.Parallel()
 	d := &dice{state: 2304}
 	seen := map[bool]int{}
 	for range 10000 {

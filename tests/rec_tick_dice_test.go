@@ -91,6 +91,7 @@ func ticksSeen(r, got impl.Recorder, sent []impl.RecMessage) []string {
 }
 
 func TestDrawnTicks(t *testing.T) {
+	t.Parallel()
 	d := &dice{state: 2401}
 	seen := map[string]int{}
 	for range 25000 {
@@ -121,6 +122,7 @@ func TestDrawnTicks(t *testing.T) {
 }
 
 func TestDrawnTicksOfWhatIsTurned(t *testing.T) {
+	t.Parallel()
 	d := &dice{state: 2402}
 	seen := map[bool]int{}
 	for range 15000 {
@@ -142,6 +144,7 @@ func TestDrawnTicksOfWhatIsTurned(t *testing.T) {
 
 // By a fall the disk is what was safe, which stays so; all else is as in one that is new and not Up.
 func TestDrawnFalls(t *testing.T) {
+	t.Parallel()
 	d := &dice{state: 2501}
 	for range 10000 {
 		r := diceTicker(d)

@@ -158,6 +158,7 @@ func (v *voyage) sail(t *testing.T, d *dice, events int) {
 
 // P26 to P30 and P32, over many rows of events.
 func TestDrawnVoyages(t *testing.T) {
+	t.Parallel()
 	d := &dice{state: 2801}
 	seen := map[string]int{}
 	for n := range 200 {

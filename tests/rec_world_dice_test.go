@@ -105,6 +105,7 @@ func diceRecEvent(d *dice, w impl.RecWorld) impl.RecEvent {
 }
 
 func TestDrawnRecWorlds(t *testing.T) {
+	t.Parallel()
 	d := &dice{state: 2603}
 	seen := map[string]int{}
 	for range 4000 {
@@ -141,6 +142,7 @@ func TestDrawnRecWorlds(t *testing.T) {
 }
 
 func TestDrawnRecWorldsInCalm(t *testing.T) {
+	t.Parallel()
 	d := &dice{state: 2604}
 	for range 700 {
 		w := diceRecWorld(d)
@@ -170,6 +172,7 @@ func wantFixedStays(t *testing.T, w, got impl.RecWorld) {
 }
 
 func TestDrawnRecWorldsThatAreTurned(t *testing.T) {
+	t.Parallel()
 	d := &dice{state: 2605}
 	seen := map[bool]int{}
 	for range 2500 {

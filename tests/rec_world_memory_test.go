@@ -40,6 +40,7 @@ func memoryRecEvents() []impl.RecEvent {
 }
 
 func TestRecWorldsShareNoMemory(t *testing.T) {
+	t.Parallel()
 	for _, plain := range memoryRecWorlds() {
 		w := withRoom(plain)
 		before := opened(w)

@@ -84,6 +84,7 @@ func wantDrawnDone(t *testing.T, b impl.StewBook) bool {
 
 // P18 and P19, over many drawn books.
 func TestDrawnBooksThatAreDoneOrNot(t *testing.T) {
+	t.Parallel()
 	d := &dice{state: 1818}
 	seen := map[string]int{}
 	for range 4000 {

@@ -102,6 +102,7 @@ func wantActsOnTheWay(t *testing.T, w impl.StewWorld, m impl.StewMove, got impl.
 }
 
 func TestDrawnFleetWorlds(t *testing.T) {
+	t.Parallel()
 	d := &dice{state: 1914}
 	seen := map[string]int{}
 	for range 1800 {
@@ -143,6 +144,7 @@ func fleetJourney(t *testing.T, d *dice, moves int, see func(m impl.StewMove, co
 }
 
 func TestDrawnJourneysOfAFleet(t *testing.T) {
+	t.Parallel()
 	d := &dice{state: 1916}
 	seen := map[string]int{}
 	for range 100 {
@@ -234,6 +236,7 @@ func wantRound(t *testing.T, w impl.StewWorld, order []int) impl.StewWorld {
 
 // P20 and P21, over many journeys; and near the last Now and the last Next that they speak of.
 func TestDrawnFleetsComeToRest(t *testing.T) {
+	t.Parallel()
 	d := &dice{state: 1920}
 	seen := map[string]int{}
 	for range 100 {
@@ -310,6 +313,7 @@ func TestNoRestWithoutABerth(t *testing.T) {
 
 // P22, over journeys and drawn worlds, and at the ends.
 func TestDrawnCalmIsCalmAndCalm(t *testing.T) {
+	t.Parallel()
 	d := &dice{state: 1922}
 	for range 150 {
 		w := diceFleetWorld(d)
